@@ -1,0 +1,1 @@
+"""Outlines drawn by programs of bytes; the one function to call is answers in outlineruns.outlines."""

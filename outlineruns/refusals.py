@@ -1,0 +1,15 @@
+"""The numbers that say what is wrong, and FINE where nothing is."""
+
+FINE = 0
+WRONG_CALL = -1
+STACK_FULL = -2
+WRONG_COUNT = -3
+NO_OPERATOR = -4
+NO_SUBROUTINE = -5
+TOO_DEEP = -6
+BYTES_END = -7
+OUT_OF_RANGE = -8
+TOO_MUCH_DRAWN = -9
+TOO_MANY_OPERATORS = -10
+TOO_MANY_HINTS = -11
+NO_PATH = -12
